@@ -1,0 +1,1 @@
+"""Emptyfirst: services that talk on endless lines."""
