@@ -24,6 +24,40 @@ STANDING = r"""
 [True, True, None, True]
 """
 
+NETS = r"""
+>>> from emptyfirst.nets import Net, can_do, follow, pair
+>>> from emptyfirst.services import hear, say
+>>> ticks, ears = say("a", "tick").again(), hear("b", "tick").again()
+>>> net = Net([("bell", ticks), ("guest", ears)], [("bell", "a", "guest", "b")])
+>>> run = [("bell", "!", "a", "tick"), ("bell", "!", "a", "tick"), ("guest", "?", "b", "tick")]
+>>> [net.services, len(net), follow(net, run), can_do(net, []), can_do(net, run), net["bell"] == ticks, pair(ticks, ears).joins]
+[['bell', 'guest'], 2, ([0, 0], [([], ['tick'])]), [('bell', '!', 'a', 'tick')], [('bell', '!', 'a', 'tick'), ('guest', '?', 'b', 'tick')], True, [('one', 'a', 'other', 'b')]]
+"""
+
+VERDICTS = r"""
+>>> from emptyfirst.nets import pair
+>>> from emptyfirst.services import done, hear, say
+>>> from emptyfirst.verdicts import clash_run, deaf_run, end_run, goes_well, judge, meetings, rest_run, states, stuck_run
+>>> talk = pair(say("a", "x") >> say("a", "y"), hear("b", "x") >> hear("b", "z"))
+>>> [clash_run(talk), meetings(talk), len(deaf_run(talk)), len(stuck_run(talk)), rest_run(talk), end_run(talk), goes_well(talk)]
+[None, [[0, 0], [1, 1]], 3, 3, None, None, False]
+>>> both_say = pair(say("a", "x"), say("b", "y"))
+>>> [len(clash_run(both_say)), goes_well(both_say), rest_run(pair(say("a", "x"), done())), goes_well(pair(say("a", "x"), hear("b", "x")))]
+[2, False, [('one', '!', 'a', 'x')], True]
+>>> [states(pair(say("a", "x"), hear("b", "x"))), judge(pair(say("a", "x"), hear("b", "x")), [((0, 0), ((),)), ((1, 0), ((1, "x"),)), ((1, 1), ((),))])]
+[[((0, 0), ((),)), ((1, 0), ((1, 'x'),)), ((1, 1), ((),))], True]
+"""
+
+LYING = r"""
+>>> from emptyfirst.lying import can_lie, lying, lying_run, most_lying
+>>> from emptyfirst.nets import pair
+>>> from emptyfirst.services import hear, say
+>>> bell = pair(say("a", "tick").again(), hear("b", "tick").again())
+>>> two = pair(say("a", "x") >> say("a", "y"), hear("b", "x") >> hear("b", "y"))
+>>> [lying(bell, "other", "b"), most_lying(bell, "other", "b"), lying(two, "other", "b"), most_lying(two, "other", "b"), lying(two, "one", "a"), can_lie(two, "other", "b", ["y"]), len(lying_run(two, "other", "b", ["y"]))]
+[[[('tick', 0)]], None, [[('x', 1), ('y', 2)], [('y', 2)], []], 2, [[]], True, 3]
+"""
+
 
 class ExamplesTest(unittest.TestCase):
     def check(self, text, many):
@@ -38,6 +72,15 @@ class ExamplesTest(unittest.TestCase):
 
     def test_standing(self):
         self.check(STANDING, 6)
+
+    def test_nets(self):
+        self.check(NETS, 6)
+
+    def test_verdicts(self):
+        self.check(VERDICTS, 8)
+
+    def test_lying(self):
+        self.check(LYING, 6)
 
     def test_readme(self):
         self.check(Path(__file__).parents[1].joinpath("README.md").read_text(encoding="ascii"), 10)

@@ -4,21 +4,34 @@ import inspect
 import random
 import unittest
 
-from emptyfirst import errors, services, standing
+from emptyfirst import errors, lying, nets, services, standing, verdicts
 from emptyfirst.errors import TalkError
+from emptyfirst.lying import can_lie, lying_run, most_lying
+from emptyfirst.nets import Net, can_do, follow, pair
 from emptyfirst.services import Service, done, first_unlike, hear, say
 from emptyfirst.standing import both, can_stand, either, is_plain, parting_talk
+from emptyfirst.verdicts import clash_run, deaf_run, end_run, goes_well, judge, meetings, rest_run, states, stuck_run
 
 FUNCTIONS = [
     (services, "say", ["line", "word"]), (services, "hear", ["line", "word"]), (services, "done", []),
     (services, "first_unlike", ["one", "other"]), (standing, "is_plain", ["service"]),
     (standing, "can_stand", ["other", "one"]), (standing, "parting_talk", ["other", "one"]),
     (standing, "both", ["one", "other"]), (standing, "either", ["one", "other"]),
+    (nets, "pair", ["one", "other"]), (nets, "follow", ["net", "run"]), (nets, "can_do", ["net", "run"]),
+    (verdicts, "clash_run", ["net"]), (verdicts, "meetings", ["net"]), (verdicts, "stuck_run", ["net"]),
+    (verdicts, "deaf_run", ["net"]), (verdicts, "rest_run", ["net"]), (verdicts, "end_run", ["net"]),
+    (verdicts, "goes_well", ["net"]), (verdicts, "states", ["net"]), (verdicts, "judge", ["net", "table"]),
+    (lying, "lying", ["net", "name", "line"]), (lying, "can_lie", ["net", "name", "line", "words"]),
+    (lying, "most_lying", ["net", "name", "line"]), (lying, "lying_run", ["net", "name", "line", "words"]),
 ]
-METHODS = [
+SERVICE_METHODS = [
     ("__init__", ["self", "rooms"]), ("__len__", ["self"]), ("__eq__", ["self", "other"]),
     ("__rshift__", ["self", "other"]), ("__or__", ["self", "other"]), ("__invert__", ["self"]),
     ("again", ["self"]), ("renamed", ["self", "pairs"]), ("has", ["self", "row"]),
+]
+NET_METHODS = [
+    ("__init__", ["self", "services", "joins"]), ("__getitem__", ["self", "name"]), ("__len__", ["self"]),
+    ("__eq__", ["self", "other"]),
 ]
 
 
@@ -31,12 +44,18 @@ class InterfaceTest(unittest.TestCase):
             self.check_arguments(function, names)
 
     def test_service(self):
-        self.assertEqual(Service.__module__, "emptyfirst.services")
-        for name, names in METHODS:
-            self.assertIn(name, vars(Service))
-            self.check_arguments(vars(Service)[name], names)
-        for name in ("rooms", "lines"):
-            self.assertIsInstance(vars(Service)[name], property)
+        self.check_class(Service, "emptyfirst.services", SERVICE_METHODS, ("rooms", "lines"))
+
+    def test_net(self):
+        self.check_class(Net, "emptyfirst.nets", NET_METHODS, ("services", "joins"))
+
+    def check_class(self, kind, module, methods, properties):
+        self.assertEqual(kind.__module__, module)
+        for name, names in methods:
+            self.assertIn(name, vars(kind))
+            self.check_arguments(vars(kind)[name], names)
+        for name in properties:
+            self.assertIsInstance(vars(kind)[name], property)
 
     def check_arguments(self, function, names):
         parameters = list(inspect.signature(function).parameters.values())
@@ -79,25 +98,60 @@ def questions():
     return found
 
 
+def net_questions():
+    """Return questions about nets that share their services, some of which are not orderly."""
+    ask = (say("a", "ask") >> (hear("a", "yes") >> say("a", "pay") | hear("a", "no"))).again()
+    shared = [done(), say("a", "x"), hear("a", "x"), say("a", "x").again(), ask, ~ask]
+    asked = [pair(one, other) for one in shared for other in shared]
+    asked += [Net([("one", ask), ("third", shared[3]), ("other", shared[at])],
+                  [("one", "a", "other", "a"), ("third", "a", "one", "b")]) for at in (0, 2, 5)]
+    found = []
+    for net in asked:
+        for ask_net in (clash_run, meetings, stuck_run, deaf_run, rest_run, end_run, goes_well, states):
+            found.append(lambda net=net, ask_net=ask_net: ask_net(net))
+        for run in ([], [("one", "!", "a", "x")], [("one", "!", "a", "ask"), ("other", "?", "a", "ask")]):
+            found += [lambda net=net, run=run: follow(net, run), lambda net=net, run=run: can_do(net, run)]
+        for end in (("one", "a"), ("other", "a"), ("other", "b"), ("none", "a")):
+            found += [lambda net=net, end=end: lying.lying(net, *end), lambda net=net, end=end: most_lying(net, *end),
+                      lambda net=net, end=end: can_lie(net, *end, ["x"]),
+                      lambda net=net, end=end: lying_run(net, *end, ["x", "x"])]
+        found += [lambda net=net: net.services, lambda net=net: net.joins, lambda net=net: net["one"].rooms,
+                  lambda net=net: judge(net, [((0,) * len(net), ((),) * len(net.joins))]), lambda net=net: net["none"]]
+    return found
+
+
 class SequenceTest(unittest.TestCase):
     def test_same_questions_in_another_sequence(self):
-        asked = questions()
-        first = [answer(question) for question in asked]
-        self.assertEqual([answer(question) for question in asked], first)
-        self.assertEqual([answer(question) for question in reversed(asked)], list(reversed(first)))
-        order = list(range(len(asked)))
-        random.Random(14).shuffle(order)
-        self.assertEqual([answer(asked[at]) for at in order], [first[at] for at in order])
-        others = questions()
-        self.assertEqual([answer(others[at]) for at in order], [first[at] for at in order])
+        for ask in (questions, net_questions):
+            asked, others = ask(), ask()
+            first = [answer(question) for question in asked]
+            self.assertEqual([answer(question) for question in asked], first)
+            self.assertEqual([answer(question) for question in reversed(asked)], list(reversed(first)))
+            order = list(range(len(asked)))
+            random.Random(14).shuffle(order)
+            self.assertEqual([answer(asked[at]) for at in order], [first[at] for at in order])
+            self.assertEqual([answer(others[at]) for at in order], [first[at] for at in order])
 
     def test_answers_are_new(self):
-        for question in questions():
-            told = answer(question)[1]
-            if isinstance(told, list):
-                again = answer(question)[1]
-                told.append("more")
-                self.assertEqual(answer(question)[1], again)
+        for ask in (questions, net_questions):
+            for question in ask():
+                told = answer(question)[1]
+                if isinstance(told, (list, tuple)):
+                    again = answer(question)[1]
+                    lists = lists_within(told)
+                    self.assertEqual(len({id(one) for one in lists}), len(lists))
+                    for one in lists:
+                        one.append("more")
+                    self.assertEqual(answer(question)[1], again)
+
+
+def lists_within(told):
+    """Return all lists in what was told, each as often as it stands there."""
+    found = [told] if isinstance(told, list) else []
+    for part in told:
+        if isinstance(part, (list, tuple)):
+            found += lists_within(part)
+    return found
 
 
 if __name__ == "__main__":

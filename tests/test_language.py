@@ -10,7 +10,7 @@ import emptyfirst
 FOLDER = Path(emptyfirst.__file__).parent
 BUILTINS = set(
     "len range enumerate zip min max sum abs sorted reversed int str bool list tuple dict set isinstance ord repr "
-    "any all divmod ValueError property".split()
+    "any all divmod ValueError TypeError property".split()
 )
 BARRED = (
     ast.GeneratorExp, ast.Lambda, ast.Global, ast.Nonlocal, ast.AsyncFunctionDef, ast.Await, ast.Import, ast.Try,
