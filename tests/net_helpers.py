@@ -87,6 +87,11 @@ class Talks:
         return list(place[1][join][side])
 
 
+def talks_of(net):
+    """Return all that can be done in a net that is there already."""
+    return Talks([(name, net[name].rooms) for name in net.services], net.joins)
+
+
 class Search:
     """The least lengths of the runs to the places of a net, as far as the search comes ahead of the first clash.
 

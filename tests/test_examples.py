@@ -58,6 +58,27 @@ LYING = r"""
 [[[('tick', 0)]], None, [[('x', 1), ('y', 2)], [('y', 2)], []], 2, [[]], True, 3]
 """
 
+TALKS = r"""
+>>> from emptyfirst.nets import pair
+>>> from emptyfirst.services import hear, say
+>>> from emptyfirst.talks import CalmTalk, Talk
+>>> net = pair(say("a", "x") >> hear("a", "y"), hear("b", "x") >> say("b", "y"))
+>>> talk = Talk(net)
+>>> [talk("one", "!", "x"), talk.lies("other", "b"), talk["one"], talk.able(), talk("other", "?", "x", "b"), talk("other", "!", "y"), talk.has_ended, talk.undo(), len(talk), talk.has_clashed]
+[None, ['x'], 1, [('other', '?', 'b', 'x')], None, None, False, None, 2, False]
+>>> [Talk(net) == Talk(net), Talk(net) == CalmTalk(net)]
+[True, False]
+"""
+
+READINGS = r"""
+>>> from emptyfirst.nets import pair
+>>> from emptyfirst.readings import read_net, read_service
+>>> from emptyfirst.services import done, hear, say
+>>> from emptyfirst.texts import show_net, show_service
+>>> [show_service(say("out", "ask") >> (hear("out", "yes") | hear("out", "no"))), show_service(done()), read_service("!a.b>0") == say("a", "b").again(), show_net(pair(say("a", "x"), done()))]
+['!out.ask>1 ?out.no>2,?out.yes>2 .', '.', True, 'one: !a.x>1 .; other: .; one.a=other.a']
+"""
+
 
 class ExamplesTest(unittest.TestCase):
     def check(self, text, many):
@@ -81,6 +102,12 @@ class ExamplesTest(unittest.TestCase):
 
     def test_lying(self):
         self.check(LYING, 6)
+
+    def test_talks(self):
+        self.check(TALKS, 7)
+
+    def test_readings(self):
+        self.check(READINGS, 5)
 
     def test_readme(self):
         self.check(Path(__file__).parents[1].joinpath("README.md").read_text(encoding="ascii"), 10)

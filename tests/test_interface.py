@@ -4,12 +4,15 @@ import inspect
 import random
 import unittest
 
-from emptyfirst import errors, lying, nets, services, standing, verdicts
+from emptyfirst import errors, lying, nets, readings, services, standing, texts, verdicts
 from emptyfirst.errors import TalkError
 from emptyfirst.lying import can_lie, lying_run, most_lying
 from emptyfirst.nets import Net, can_do, follow, pair
+from emptyfirst.readings import read_net, read_service
 from emptyfirst.services import Service, done, first_unlike, hear, say
 from emptyfirst.standing import both, can_stand, either, is_plain, parting_talk
+from emptyfirst.talks import CalmTalk, Talk
+from emptyfirst.texts import show_net, show_service
 from emptyfirst.verdicts import clash_run, deaf_run, end_run, goes_well, judge, meetings, rest_run, states, stuck_run
 
 FUNCTIONS = [
@@ -23,6 +26,8 @@ FUNCTIONS = [
     (verdicts, "goes_well", ["net"]), (verdicts, "states", ["net"]), (verdicts, "judge", ["net", "table"]),
     (lying, "lying", ["net", "name", "line"]), (lying, "can_lie", ["net", "name", "line", "words"]),
     (lying, "most_lying", ["net", "name", "line"]), (lying, "lying_run", ["net", "name", "line", "words"]),
+    (texts, "show_service", ["service"]), (texts, "show_net", ["net"]),
+    (readings, "read_service", ["text"]), (readings, "read_net", ["text"]),
 ]
 SERVICE_METHODS = [
     ("__init__", ["self", "rooms"]), ("__len__", ["self"]), ("__eq__", ["self", "other"]),
@@ -32,6 +37,20 @@ SERVICE_METHODS = [
 NET_METHODS = [
     ("__init__", ["self", "services", "joins"]), ("__getitem__", ["self", "name"]), ("__len__", ["self"]),
     ("__eq__", ["self", "other"]),
+]
+TALK_METHODS = [
+    ("__init__", ["self", "net"]), ("__call__", ["self", "name", "sign", "word", "line"]),
+    ("__getitem__", ["self", "name"]), ("lies", ["self", "name", "line"]), ("able", ["self"]), ("undo", ["self"]),
+    ("do_all", ["self", "run"]), ("__len__", ["self"]), ("__eq__", ["self", "other"]),
+]
+CALM_METHODS = [TALK_METHODS[0], TALK_METHODS[1], ("do_all", ["self", "run"]), ("__eq__", ["self", "other"])]
+
+TELLS = [
+    lambda talk, run: talk.run, lambda talk, run: talk.able(), lambda talk, run: talk.has_ended,
+    lambda talk, run: talk.has_clashed, lambda talk, run: len(talk), lambda talk, run: talk["other"],
+    lambda talk, run: talk.lies("other", "a"), lambda talk, run: talk.lies("one", "c"),
+    lambda talk, run: talk("one", "!", "ask"), lambda talk, run: talk.undo(), lambda talk, run: talk.do_all(run),
+    lambda talk, run: (talk("one", "!", "ask"), talk.run, talk.able(), talk.lies("other", "a")),
 ]
 
 
@@ -49,6 +68,11 @@ class InterfaceTest(unittest.TestCase):
     def test_net(self):
         self.check_class(Net, "emptyfirst.nets", NET_METHODS, ("services", "joins"))
 
+    def test_talks(self):
+        self.check_class(Talk, "emptyfirst.talks", TALK_METHODS, ("run", "has_ended", "has_clashed"))
+        self.check_class(CalmTalk, "emptyfirst.talks", CALM_METHODS, ())
+        self.assertTrue(issubclass(CalmTalk, Talk))
+
     def check_class(self, kind, module, methods, properties):
         self.assertEqual(kind.__module__, module)
         for name, names in methods:
@@ -61,7 +85,9 @@ class InterfaceTest(unittest.TestCase):
         parameters = list(inspect.signature(function).parameters.values())
         self.assertEqual([one.name for one in parameters], names)
         for one in parameters:
-            self.assertEqual((one.kind, one.default), (one.POSITIONAL_OR_KEYWORD, one.empty))
+            self.assertEqual(one.kind, one.POSITIONAL_OR_KEYWORD)
+            due = None if (function.__name__, one.name) == ("__call__", "line") else one.empty
+            self.assertIs(one.default, due)
 
     def test_errors(self):
         kinds = [kind for _, kind in inspect.getmembers(errors, inspect.isclass)]
@@ -77,6 +103,8 @@ def answer(question):
         told = question()
     except TalkError as error:
         return type(error).__name__, error.value
+    if isinstance(told, Net):
+        return "net", (told.services, [told[name].rooms for name in told.services], told.joins)
     return ("service", told.rooms) if isinstance(told, Service) else ("value", told)
 
 
@@ -120,9 +148,34 @@ def net_questions():
     return found
 
 
+def talk_questions():
+    """Return questions about talks and texts: a talk is made anew for each, so none depends on the ones before."""
+    ask = (say("a", "ask") >> (hear("a", "yes") >> say("a", "pay") | hear("a", "no"))).again()
+    two = Net([("one", ask), ("third", say("a", "x").again()), ("other", ~ask)],
+              [("one", "a", "other", "a"), ("third", "a", "one", "b")])
+    says = [("one", "!", "a", "ask"), ("other", "?", "a", "ask"), ("other", "!", "a", "yes")]
+    runs = [[], says, says[:1] * 2, says + [("one", "?", "a", "yes")], [("other", "!", "a", "x")] * 2]
+    texts_to_read = [".", "!a.b>0", "!a.b>1", "", "one: .; other: .", "one: .; one: .", "!a.b>00", "one.a=other.a"]
+    found = []
+    for net in (pair(ask, ~ask), pair(ask, ask), pair(say("a", "x"), done()), two, Net([], [])):
+        for kind in (Talk, CalmTalk):
+            for run in runs:
+                found += [lambda net=net, kind=kind, run=run, tell=tell: tell(talk_behind(kind, net, run), run)
+                          for tell in TELLS]
+        found.append(lambda net=net: show_net(net))
+    found += [lambda text=text, read=read: read(text) for text in texts_to_read for read in (read_service, read_net)]
+    return found + [lambda: show_service(ask), lambda: show_service(~ask)]
+
+
+def talk_behind(kind, net, run):
+    talk = kind(net)
+    talk.do_all(run)
+    return talk
+
+
 class SequenceTest(unittest.TestCase):
     def test_same_questions_in_another_sequence(self):
-        for ask in (questions, net_questions):
+        for ask in (questions, net_questions, talk_questions):
             asked, others = ask(), ask()
             first = [answer(question) for question in asked]
             self.assertEqual([answer(question) for question in asked], first)
@@ -133,7 +186,7 @@ class SequenceTest(unittest.TestCase):
             self.assertEqual([answer(others[at]) for at in order], [first[at] for at in order])
 
     def test_answers_are_new(self):
-        for ask in (questions, net_questions):
+        for ask in (questions, net_questions, talk_questions):
             for question in ask():
                 told = answer(question)[1]
                 if isinstance(told, (list, tuple)):

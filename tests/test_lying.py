@@ -10,7 +10,7 @@ from emptyfirst.nets import Net, follow, pair
 from emptyfirst.services import Service, done, hear, say
 from emptyfirst.verdicts import clash_run
 from tests.helpers import check_error
-from tests.net_helpers import Search, Talks, some_talks
+from tests.net_helpers import Search, some_talks, talks_of
 
 ASKERS = ((lying, ()), (can_lie, (["x"],)), (most_lying, ()), (lying_run, (["x"],)))
 
@@ -32,10 +32,6 @@ def longest(table):
         if not rooms:
             return count
     return None
-
-
-def talks_of(net):
-    return Talks([(name, net[name].rooms) for name in net.services], net.joins)
 
 
 def turned(net):

@@ -10,17 +10,13 @@ from emptyfirst.nets import Net, can_do, follow, pair
 from emptyfirst.services import Service, done
 from emptyfirst.verdicts import clash_run, deaf_run, end_run, goes_well, judge, meetings, rest_run, states, stuck_run
 from tests.helpers import check_error
-from tests.net_helpers import Talks, moves_behind, states_by_moves
+from tests.net_helpers import Talks, moves_behind, states_by_moves, talks_of
 
 
 def ring(sign, line, count, words, left_out=()):
     """Return rooms in a ring, each of which says or hears all words, but for some (room, word) that are left out."""
     return [[(sign, line, word, (at + 1) % count) for word in words if (at, word) not in left_out]
             for at in range(count)]
-
-
-def talks_of(net):
-    return Talks([(name, net[name].rooms) for name in net.services], net.joins)
 
 
 def hub_net():
